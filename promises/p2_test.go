@@ -1,0 +1,113 @@
+package promises
+
+import (
+	"reflect"
+	"testing"
+
+	"warden/api"
+	"warden/warden"
+)
+
+// roomy: the list with spare room behind it, which holds mark.
+func roomy[T any](list []T, mark T) []T {
+	wide := make([]T, 0, len(list)+4)
+	wide = append(wide, list...)
+	for range 4 {
+		wide = append(wide, mark)
+	}
+	return wide[:len(list)]
+}
+
+// roomySample: the sample, with spare room behind each list.
+func roomySample() api.Class {
+	c := sample()
+	for i := range c.Methods {
+		m := &c.Methods[i]
+		m.Params = roomy(m.Params, api.Type{Kind: 77, Name: "spare"})
+		m.Code = roomy(m.Code, api.Ins{Op: 77})
+		m.Handlers = roomy(m.Handlers, api.Handler{From: 77})
+	}
+	c.Fields = roomy(c.Fields, api.Field{Name: "spare"})
+	c.Methods = roomy(c.Methods, api.Method{Name: "spare"})
+	return c
+}
+
+// whole: the class with each list as long as its room.
+func whole(c api.Class) api.Class {
+	c.Fields = c.Fields[:cap(c.Fields)]
+	methods := append([]api.Method(nil), c.Methods[:cap(c.Methods)]...)
+	for i := range methods {
+		m := &methods[i]
+		m.Params, m.Code, m.Handlers = m.Params[:cap(m.Params)], m.Code[:cap(m.Code)], m.Handlers[:cap(m.Handlers)]
+	}
+	c.Methods = methods
+	return c
+}
+
+func TestP2EncodeWritesNothing(t *testing.T) {
+	for _, turn := range []func(*api.Class){
+		func(*api.Class) {},
+		func(c *api.Class) { c.Methods[1].Name = "" },
+		func(c *api.Class) { c.Methods[0].Code[3].Op = 99 },
+		func(c *api.Class) { c.Methods[1].Code = make([]api.Ins, 3000) },
+	} {
+		given, kept := roomySample(), roomySample()
+		turn(&given)
+		turn(&kept)
+		warden.Encode(given)
+		if !reflect.DeepEqual(whole(given), whole(kept)) {
+			t.Errorf("Encode wrote into what it was given: %s", show(whole(given)))
+		}
+	}
+}
+
+// TestP2EncodeKeepsNothing: a file stays as it is when the class is written into, and so does the next file.
+func TestP2EncodeKeepsNothing(t *testing.T) {
+	c, want := sample(), fileOf(sampleParts())
+	first, _ := warden.Encode(c)
+	scribble(&c, true)
+	if first != want {
+		t.Errorf("the file changed with the class: %.300q", first)
+	}
+	wantFile(t, sample(), want)
+}
+
+// scribble writes into a class's lists, if inside is set, and into their spare room.
+func scribble(c *api.Class, inside bool) {
+	for i := range c.Methods {
+		m := &c.Methods[i]
+		fill(m.Params, api.Type{Kind: 99, Name: "bad"}, inside)
+		fill(m.Code, api.Ins{Op: 99, A: 99, Class: "bad", Member: "bad"}, inside)
+		fill(m.Handlers, api.Handler{From: 99, To: 99, At: 99, Class: "bad"}, inside)
+	}
+	fill(c.Fields, api.Field{Name: "bad"}, inside)
+	fill(c.Methods, api.Method{Name: "bad"}, inside)
+}
+
+func fill[T any](list []T, x T, inside bool) {
+	from := len(list)
+	if inside {
+		from = 0
+	}
+	for i := range list[from:cap(list)] {
+		list[from:cap(list)][i] = x
+	}
+}
+
+func TestP2DecodeGivesNewMemory(t *testing.T) {
+	file := fileOf(sampleParts())
+	first, _, _ := warden.Decode(file)
+	second, _, _ := warden.Decode(file)
+	scribble(&first, false)
+	if !sameClass(first, sample()) {
+		t.Errorf("the spare room of one list is in another: %s", show(first))
+	}
+	scribble(&first, true)
+	if !sameClass(second, sample()) {
+		t.Errorf("two classes share memory: %s", show(second))
+	}
+	third, e, _ := warden.Decode(file)
+	if e != api.OK || !sameClass(third, sample()) {
+		t.Errorf("Decode gives another class once the first was written into: %s, %d", show(third), e)
+	}
+}
