@@ -56,3 +56,54 @@ func TestP1OtherFields(t *testing.T) {
 		}
 	}
 }
+
+// TestP1OddFiles: Load answers whatever the files are, and nothing but the error and its place beside an error.
+func TestP1OddFiles(t *testing.T) {
+	long := strings.Repeat("W1", 1<<20)
+	wantAnswer(t, "no list", nil, true, api.OK, api.Place{})
+	wantAnswer(t, "an empty list", []string{}, false, api.OK, api.Place{})
+	wantAnswer(t, "long files", filled(12, long), true, api.ErrLong, api.Place{})
+	wantAnswer(t, "many long files", filled(5000, long), true, api.ErrArg, api.Place{})
+	for b := range 256 {
+		for _, n := range []int{1, 3, 20, 2000} {
+			file := "W1" + strings.Repeat(bytesOf(b), n)
+			_, e, at := warden.Decode(file)
+			if e != api.OK {
+				wantAnswer(t, "bytes that are alike", []string{"W1\x02\x01A\x06Object\x00\x01\x00\x00", file}, true, e, api.Place{File: 1, At: at})
+			}
+		}
+	}
+}
+
+// TestP1ChangedFiles: each byte of a file as any other, checked: a program or an error, and never both.
+func TestP1ChangedFiles(t *testing.T) {
+	m := plainMethod(2, 3, code(do(api.Push), do(api.IfZero, 3), do(api.Return), by(api.New, "Me"), do(api.Store, 1), do(api.Load, 1), by(api.Get, "Me", "n"), do(api.Print), do(api.Return), do(api.Throw)), handlerTo(0, 9, 9, "Own"))
+	files := withFamily(t, m)
+	file := files[mine]
+	for at := range file {
+		for b := range 256 {
+			files[mine] = changed(file, at, b)
+			p, e, place := warden.Load(files, true)
+			if (p != nil) != (e == api.OK) || e == api.OK && place != (api.Place{}) || e > api.ErrKind {
+				t.Errorf("%q: %v, %d, %+v", files[mine], p, e, place)
+			}
+			if p == nil {
+				continue
+			}
+			if f, e := p.Typing("Me", "m"); (len(f) == 0) != (e == api.ErrEntry) {
+				t.Errorf("%q: Typing = %v, %d", files[mine], f, e)
+			}
+		}
+	}
+}
+
+func TestP1OddTypings(t *testing.T) {
+	p := wantAnswer(t, "the family", withFamily(t), true, api.OK, api.Place{})
+	for _, name := range []string{"", "\x00", "None", "Object", "Zero", "Pet\x00", strings.Repeat("Pet", 1<<20)} {
+		for _, x := range [][2]string{{name, "num"}, {"Pet", name}, {name, name}} {
+			if f, e := p.Typing(x[0], x[1]); f != nil || e != api.ErrEntry {
+				t.Errorf("Typing(%.20q) = %v, %d", x, f, e)
+			}
+		}
+	}
+}

@@ -111,3 +111,67 @@ func TestP2DecodeGivesNewMemory(t *testing.T) {
 		t.Errorf("Decode gives another class once the first was written into: %s, %d", show(third), e)
 	}
 }
+
+// TestP2LoadKeepsNothing: a program stays as it is when the list of files is written into, which Load itself does not do.
+func TestP2LoadKeepsNothing(t *testing.T) {
+	m := plainMethod(1, 2, code(do(api.Push), do(api.Store, 1), do(api.Return)))
+	kept := withFamily(t, m)
+	files := roomy(kept, "spare")
+	p := wantAnswer(t, "the family", files, true, api.OK, api.Place{})
+	if !reflect.DeepEqual(files[:cap(files)], roomy(kept, "spare")[:cap(files)]) {
+		t.Errorf("Load wrote into its files: %q", files[:cap(files)])
+	}
+	want, _ := p.Typing("Me", "m")
+	fill(files, "W1", true)
+	wantTyping(t, "the files changed", p, "m", want)
+	wantAnswer(t, "the files changed", files, true, api.ErrShort, api.Place{At: 2})
+	wantTyping(t, "another Load", p, "m", want)
+}
+
+// scribbleFrames writes into the lists of frames, if inside is set, and into their spare room.
+func scribbleFrames(frames []api.Frame, inside bool) {
+	for _, f := range frames {
+		fill(f.Types, api.Type{Kind: 99, Name: "bad"}, inside)
+		fill(f.Vars, api.Type{Kind: 99, Name: "bad"}, inside)
+	}
+	fill(frames, api.Frame{At: 99, Class: "bad"}, inside)
+}
+
+func TestP2TypingGivesNewMemory(t *testing.T) {
+	for seed := range int64(100) {
+		r := newMaker(seed)
+		r.make()
+		p, e, _ := warden.Load(withFamily(t, r.m), true)
+		if e != api.OK {
+			continue
+		}
+		_, _, want := r.w.check("Me", r.m)
+		first, _ := p.Typing("Me", "m")
+		second, _ := p.Typing("Me", "m")
+		scribbleFrames(first, false)
+		for at, f := range want {
+			if f.Reached && (!sameList(first[at].Types, f.Types) || !sameList(first[at].Vars, f.Vars)) {
+				t.Errorf("seed %d: the spare room of one list is in another: %+v, want %+v", seed, first[at], f)
+			}
+		}
+		scribbleFrames(first, true)
+		for at, f := range want {
+			if f.Reached && (!sameList(second[at].Types, f.Types) || !sameList(second[at].Vars, f.Vars)) {
+				t.Errorf("seed %d: two typings share memory: %+v, want %+v", seed, second[at], f)
+			}
+		}
+		wantTyping(t, "once more", p, "m", want)
+	}
+}
+
+// TestP2ListsApart: of the lists of one typing none is a piece of another.
+func TestP2ListsApart(t *testing.T) {
+	f := typingOf(t, "lists", plainMethod(3, 4, code(do(api.Push), do(api.Push), do(api.Push), do(api.Return))))
+	fill(f[3].Types, refTo("bad"), true)
+	fill(f[1].Vars, refTo("bad"), true)
+	for at := range f {
+		if at != 3 && !sameList(f[at].Types, filled(at, number)) || at != 1 && !sameList(f[at].Vars, typeList(refTo("Me"), nothing, nothing, nothing)) {
+			t.Errorf("frame %d: %+v", at, f[at])
+		}
+	}
+}

@@ -3,11 +3,16 @@ package warden
 
 import (
 	"warden/api"
+	"warden/check"
 	"warden/classfile"
+	"warden/link"
 )
 
 // Program: classes that were linked.
-type Program struct{}
+type Program struct {
+	classes link.Classes
+	checked bool
+}
 
 // Run: a machine at work.
 type Run struct{}
@@ -33,11 +38,60 @@ func Decode(file string) (c api.Class, errno api.Errno, at int) {
 
 // Load links files, and checks them (P6, P7).
 func Load(files []string, checked bool) (*Program, api.Errno, api.Place) {
-	return nil, api.OK, api.Place{}
+	if len(files) > api.MaxFiles {
+		return nil, api.ErrArg, api.Place{}
+	}
+	read, errno, place := decodeAll(files)
+	if errno != api.OK {
+		return nil, errno, place
+	}
+	classes, errno, file := link.Link(read)
+	if errno != api.OK {
+		return nil, errno, api.Place{File: file}
+	}
+	if checked {
+		errno, place = checkAll(&classes, read)
+		if errno != api.OK {
+			return nil, errno, place
+		}
+	}
+	return &Program{classes, checked}, api.OK, api.Place{}
+}
+
+func decodeAll(files []string) ([]api.Class, api.Errno, api.Place) {
+	var read []api.Class
+	for number, file := range files {
+		c, errno, at := Decode(file)
+		if errno != api.OK {
+			return nil, errno, api.Place{File: number, At: at}
+		}
+		read = append(read, c)
+	}
+	return read, api.OK, api.Place{}
+}
+
+func checkAll(classes *link.Classes, read []api.Class) (api.Errno, api.Place) {
+	for file, c := range read {
+		for number, m := range c.Methods {
+			if errno, at := check.Method(classes, c.Name, m); errno != api.OK {
+				return errno, api.Place{File: file, Method: number, At: at}
+			}
+		}
+	}
+	return api.OK, api.Place{}
 }
 
 // Typing tells what is on a method's stack and in its locals (P8).
-func (p *Program) Typing(class string, method string) ([]api.Frame, api.Errno) { return nil, api.OK }
+func (p *Program) Typing(class string, method string) ([]api.Frame, api.Errno) {
+	m, has := p.classes.OwnMethod(class, method)
+	if !has {
+		return nil, api.ErrEntry
+	}
+	if !p.checked {
+		return nil, api.ErrArg
+	}
+	return check.Typing(&p.classes, class, m), api.OK
+}
 
 // Start begins a run (P9).
 func (p *Program) Start(fast bool, class string, method string, args []int, heap int) (*Run, api.Errno) {
