@@ -47,5 +47,3 @@ func codeFault(cs *link.Classes, m api.Method) (int, bool) {
 }
 
 func isEnd(op int) bool { return op == api.Jump || op == api.Return || op == api.Throw }
-
-func isInRange(h api.Handler, at int) bool { return h.From <= at && at < h.To }

@@ -67,7 +67,7 @@ func (t *typing) enter(class string) {
 // putFixed tells what comes of a place whatever the types are there.
 func (t *typing) putFixed(at int) {
 	for _, h := range t.method.Handlers {
-		if isInRange(h, at) {
+		if table.Covers(h, at) {
 			t.raise(h.At, t.method.Locals, link.RefTo(h.Class))
 		}
 	}
@@ -97,7 +97,7 @@ slots:
 			switch {
 			case s.number >= t.method.Locals:
 				break handlers // what is on the stack is lost there
-			case !isInRange(h, s.at):
+			case !table.Covers(h, s.at):
 				continue handlers
 			}
 			t.raise(h.At, s.number, risen)
@@ -140,12 +140,14 @@ func (t *typing) kindFault() (int, bool) {
 		if !t.isReached(at) {
 			continue
 		}
-		if locals, stack := t.parts(at); !table.Fits(t.classes, t.method, i, stack, locals) {
+		if locals, stack := t.parts(at); !table.Fits(t.classes, t.method, i, stack, locals, itself) {
 			return at, true
 		}
 	}
 	return 0, false
 }
+
+func itself(t api.Type) api.Type { return t }
 
 func (t *typing) parts(at int) (locals, stack []api.Type) {
 	return t.types[at][:t.method.Locals], t.types[at][t.method.Locals:]

@@ -53,7 +53,7 @@ spots:
 	handlers:
 		for _, h := range w.method.Handlers {
 			switch {
-			case !isInRange(h, s.at):
+			case !table.Covers(h, s.at):
 				continue handlers
 			case w.method.Stack == 0:
 				w.wrong[s.at] = true

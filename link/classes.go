@@ -3,6 +3,7 @@ package link
 
 import (
 	"iter"
+	"slices"
 
 	"warden/api"
 )
@@ -94,14 +95,48 @@ func (cs *Classes) Field(class, name string) (api.Type, bool) {
 	return api.Type{}, false
 }
 
-// Method gives the method that a class, or else the nearest that it is below, has.
-func (cs *Classes) Method(class, name string) (api.Method, bool) {
+// Fields lists what an object of a class has: the fields of the Super first.
+func (cs *Classes) Fields(class string) []api.Field {
+	var lists [][]api.Field
 	for c := range cs.upward(class) {
-		if m, has := cs.OwnMethod(c.Name, name); has {
-			return m, true
+		lists = append(lists, c.Fields)
+	}
+	slices.Reverse(lists)
+	return slices.Concat(lists...)
+}
+
+// Width tells how many fields an object of a class has.
+func (cs *Classes) Width(class string) int {
+	n := 0
+	for c := range cs.upward(class) {
+		n += len(c.Fields)
+	}
+	return n
+}
+
+// Slot tells which of an object's fields that is which a class, or else the nearest that it is below, has: it is to have it.
+func (cs *Classes) Slot(class, name string) int {
+	for c := range cs.upward(class) {
+		if i, has := cs.fields[member{c.Name, name}]; has {
+			return cs.Width(c.Super) + i
 		}
 	}
-	return api.Method{}, false
+	return 0
+}
+
+// Owner gives the class that has the method: a class, or else the nearest that it is below; or no name.
+func (cs *Classes) Owner(class, method string) string {
+	for c := range cs.upward(class) {
+		if _, has := cs.methods[member{c.Name, method}]; has {
+			return c.Name
+		}
+	}
+	return ""
+}
+
+// Method gives the method that a class, or else the nearest that it is below, has.
+func (cs *Classes) Method(class, name string) (api.Method, bool) {
+	return cs.OwnMethod(cs.Owner(class, name), name)
 }
 
 // OwnMethod gives the method that a class itself has.

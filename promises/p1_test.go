@@ -107,3 +107,51 @@ func TestP1OddTypings(t *testing.T) {
 		}
 	}
 }
+
+func TestP1OddStarts(t *testing.T) {
+	long := strings.Repeat("Pet", 1<<20)
+	for _, checked := range []bool{false, true} {
+		p := wantAnswer(t, "the family", withFamily(t), checked, api.OK, api.Place{})
+		for _, fast := range []bool{false, true} {
+			for _, class := range []string{"", "\x00", "Object", "Pet\x00", long, "Pet", "Me"} {
+				for _, method := range []string{"", "\xff", "Pet", long, "num"} {
+					for _, args := range [][]int{nil, {}, {math.MinInt, math.MaxInt}, make([]int, 1<<16)} {
+						for _, heap := range []int{math.MinInt, -1, 0, 2000, math.MaxInt} {
+							r, e := p.Start(fast, class, method, args, heap)
+							isGood := (class == "Pet" || class == "Me") && method == "num" && len(args) == 0 && (heap == 0 || heap == 2000)
+							if isGood != (e == api.OK) && (checked || !fast) || r != nil && e != api.OK || r == nil && isGood && !fast {
+								t.Errorf("Start(%v, %.20q, %.20q, %.20s, %d) = %v, %d", fast, class, method, show(args), heap, r != nil, e)
+							}
+						}
+					}
+				}
+			}
+		}
+	}
+}
+
+// TestP1ChangedRuns: each byte of a file as any other, unchecked: what it does, whatever that is, is what the model does.
+func TestP1ChangedRuns(t *testing.T) {
+	c := code(do(api.Push, 2), do(api.NewInts), do(api.Store, 2), do(api.Load), do(api.Load, 1), by(api.Call, "Pet", "take"), do(api.Pop), do(api.Load, 1), do(api.IfZero, 12), by(api.New, "Me"), by(api.Get, "Me", "n"), do(api.Print), do(api.Load, 2), do(api.Push), do(api.Push, 5), do(api.PutInt), do(api.Nought), do(api.Throw), do(api.Pop), do(api.Push, 1), do(api.Return))
+	m := plainMethod(3, 3, c, handlerTo(5, 6, 16, "Nil"), handlerTo(0, 18, 18, "Throw"))
+	m.Params, m.Ret = typeList(number), number
+	files := withFamily(t, m)
+	file := files[mine]
+	for at := range file {
+		for b := range 256 {
+			files[mine] = changed(file, at, b)
+			p, e, _ := warden.Load(files, false)
+			if e != api.OK {
+				continue
+			}
+			class, _, _ := warden.Decode(files[mine])
+			for _, m := range class.Methods {
+				r, e := p.Start(false, class.Name, m.Name, make([]int, len(m.Params)), 20)
+				if e == api.OK {
+					model := worldOf(append(family(), class)).start(class.Name, m.Name, make([]int, len(m.Params)), 20)
+					wantSteps(t, show(files[mine]), r, model, 60)
+				}
+			}
+		}
+	}
+}

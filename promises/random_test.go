@@ -1,9 +1,11 @@
 package promises
 
 import (
+	"math"
 	"math/rand"
 	"slices"
 	"strconv"
+	"strings"
 	"testing"
 
 	"warden/api"
@@ -21,6 +23,8 @@ type maker struct {
 	locals   []api.Type
 	isEnded  bool // nothing goes on behind the last instruction
 	nameList []string
+	callees  []string
+	favored  []api.Ins // that are taken more often
 }
 
 // jump: forward, to a place that is not there so far.
@@ -44,38 +48,68 @@ func (r *maker) anyType() api.Type {
 }
 
 func newMaker(seed int64) *maker {
-	r := &maker{Rand: rand.New(rand.NewSource(seed))}
+	r := bareMaker(seed)
+	r.begin("Me", r.head("m", r.anyType))
+	r.w = worldOf(append(family(), classOf("Me", "Pet", r.m)))
+	return r
+}
+
+// bareMaker: one that has no method so far.
+func bareMaker(seed int64) *maker {
+	r := &maker{Rand: rand.New(rand.NewSource(seed)), callees: strings.Fields("none num ref take arrays bark")}
 	for _, c := range family() {
 		r.nameList = append(r.nameList, c.Name)
 	}
 	r.nameList = append(r.nameList, "Me", "Object", "Throw", "Zero", "Nil", "Pet", "Pet", "Dog")
-	r.m = plainMethod(1+r.Intn(5), 0, nil)
-	for range r.Intn(4) {
-		r.m.Params = append(r.m.Params, r.anyType())
-	}
-	if r.Intn(3) > 0 {
-		r.m.Ret = r.anyType()
-	}
-	r.m.Locals = 1 + len(r.m.Params) + r.Intn(4)
-	r.w = worldOf(append(family(), classOf("Me", "Pet", r.m)))
-	r.locals = append(typeList(refTo("Me")), r.m.Params...)
-	r.locals = append(r.locals, make([]api.Type, r.m.Locals-len(r.locals))...)
 	return r
 }
 
+// head: a method without code, with params of such types.
+func (r *maker) head(name string, param func() api.Type) api.Method {
+	m := plainMethod(1+r.Intn(5), 0, nil)
+	m.Name = name
+	for range r.Intn(4) {
+		m.Params = append(m.Params, param())
+	}
+	if r.Intn(3) > 0 {
+		m.Ret = r.anyType()
+	}
+	m.Locals = 1 + len(m.Params) + r.Intn(4)
+	return m
+}
+
+// begin: a class's method is the one to be made.
+func (r *maker) begin(class string, m api.Method) {
+	r.m, r.isEnded = m, false
+	r.heights, r.pending, r.stack = nil, nil, nil
+	r.locals = append(typeList(refTo(class)), m.Params...)
+	r.locals = append(r.locals, make([]api.Type, m.Locals-len(r.locals))...)
+}
+
+// anyNumber: mostly a small one.
+func (r *maker) anyNumber() int {
+	if r.Intn(10) > 0 {
+		return r.Intn(9) - 2
+	}
+	return []int{math.MinInt32, math.MinInt32 + 1, math.MaxInt32, 1 << 16, -1 << 16, 46341, 1<<30 + 7}[r.Intn(7)]
+}
+
 func (r *maker) anyInstruction() api.Ins {
+	if len(r.favored) > 0 && r.Intn(5) == 0 {
+		return r.favored[r.Intn(len(r.favored))]
+	}
 	i := do(r.Intn(32))
 	switch i.Op {
 	case api.Push:
-		i.A = r.Intn(9) - 4
+		i.A = r.anyNumber()
 	case api.Load, api.Store:
 		i.A = r.Intn(r.m.Locals)
 	case api.New, api.NewRefs, api.To, api.Is:
 		i.Class = r.name()
 	case api.Get, api.Put:
-		i.Class, i.Member = r.name(), []string{"n", "r", "i", "s", "d"}[r.Intn(5)]
+		i.Class, i.Member = r.name(), []string{"n", "r", "i", "s", "d", "k"}[r.Intn(6)]
 	case api.Call:
-		i.Class, i.Member = r.name(), []string{"none", "num", "ref", "take", "arrays", "bark"}[r.Intn(6)]
+		i.Class, i.Member = r.name(), r.callees[r.Intn(len(r.callees))]
 	}
 	return i
 }

@@ -23,26 +23,29 @@ func IsThere(cs *link.Classes, m api.Method, i api.Ins) bool {
 	return there
 }
 
-// Fits tells whether an instruction, of which all is there, fits a stack and locals.
-func Fits(cs *link.Classes, m api.Method, i api.Ins, stack, locals []api.Type) bool {
+// Fits tells whether an instruction, of which all is there, fits a stack and locals. typeOf is asked for the types of those values alone that count.
+func Fits[V any](cs *link.Classes, m api.Method, i api.Ins, stack, locals []V, typeOf func(V) api.Type) bool {
 	effect := EffectOf(cs, m, i)
 	if _, room := effect.Behind(len(stack), m.Stack); !room {
 		return false
 	}
-	taken := stack[len(stack)-len(effect.Takes):]
-	for k, t := range effect.Takes {
-		if !cs.Under(taken[k], t) {
+	if i.Op == api.Load {
+		return typeOf(locals[i.A]).Kind != api.None
+	}
+	var taken []api.Type
+	for k, v := range stack[len(stack)-len(effect.Takes):] {
+		t := typeOf(v)
+		if !cs.Under(t, effect.Takes[k]) {
 			return false
 		}
+		taken = append(taken, t)
 	}
-	return fitsBeyond(cs, i, taken, locals)
+	return fitsBeyond(cs, i, taken)
 }
 
-// fitsBeyond looks at what Takes can't tell, as it hangs on a local, or is no matter of being under one type.
-func fitsBeyond(cs *link.Classes, i api.Ins, taken, locals []api.Type) bool {
+// fitsBeyond looks at what Takes can't tell, as it is no matter of being under one type.
+func fitsBeyond(cs *link.Classes, i api.Ins, taken []api.Type) bool {
 	switch i.Op {
-	case api.Load:
-		return locals[i.A].Kind != api.None
 	case api.Store:
 		return taken[0].Kind != api.None
 	case api.Length:

@@ -123,6 +123,9 @@ func Next(i api.Ins, at int) []int {
 	return []int{at + 1}
 }
 
+// Covers tells whether a place is in a handler's range.
+func Covers(h api.Handler, at int) bool { return h.From <= at && at < h.To }
+
 // Element gives the type of what is in an array of references, if there may be one of that type.
 func Element(array api.Type) (api.Type, bool) {
 	switch array.Kind {

@@ -2,10 +2,13 @@
 package warden
 
 import (
+	"math"
+
 	"warden/api"
 	"warden/check"
 	"warden/classfile"
 	"warden/link"
+	"warden/machine"
 )
 
 // Program: classes that were linked.
@@ -15,7 +18,7 @@ type Program struct {
 }
 
 // Run: a machine at work.
-type Run struct{}
+type Run struct{ machine *machine.Machine }
 
 // Encode makes a class's file (P4).
 func Encode(c api.Class) (string, api.Errno) { return classfile.Write(c) }
@@ -93,16 +96,40 @@ func (p *Program) Typing(class string, method string) ([]api.Frame, api.Errno) {
 	return check.Typing(&p.classes, class, m), api.OK
 }
 
-// Start begins a run (P9).
+// Start begins a run (P9). There are no fast runs so far: what is no error gives none.
 func (p *Program) Start(fast bool, class string, method string, args []int, heap int) (*Run, api.Errno) {
-	return nil, api.OK
+	m, has := p.classes.Method(class, method)
+	switch {
+	case fast && !p.checked:
+		return nil, api.ErrFast
+	case !has:
+		return nil, api.ErrEntry
+	case !areFor(m.Params, args) || heap < 0 || heap > api.MaxHeap:
+		return nil, api.ErrArg
+	case fast:
+		return nil, api.OK
+	}
+	return &Run{machine.Start(&p.classes, class, method, args, heap)}, api.OK
+}
+
+// areFor tells whether args are what the params ask for: Ints alone.
+func areFor(params []api.Type, args []int) bool {
+	if len(params) != len(args) {
+		return false
+	}
+	for k, a := range args {
+		if params[k].Kind != api.Int || a < math.MinInt32 || a > math.MaxInt32 {
+			return false
+		}
+	}
+	return true
 }
 
 // Step makes some steps (P11).
-func (r *Run) Step(n int) int { return 0 }
+func (r *Run) Step(n int) int { return r.machine.Step(n) }
 
 // State tells the frames and the heap (P11).
-func (r *Run) State() api.State { return api.State{} }
+func (r *Run) State() api.State { return r.machine.State() }
 
 // Outcome tells how it stands (P11).
-func (r *Run) Outcome() api.Outcome { return api.Outcome{} }
+func (r *Run) Outcome() api.Outcome { return r.machine.Outcome() }
