@@ -18,7 +18,7 @@ func (m *Machine) enter(class, method string, given []api.Word) {
 func (m *Machine) call(f *frame, i api.Ins) int {
 	named, _ := m.classes.Method(i.Class, i.Member)
 	given := f.popList(1 + len(named.Params))
-	if given[0] == null {
+	if isNull(given[0]) {
 		return nilAt
 	}
 	if len(m.frames) >= api.MaxFrames {
@@ -36,7 +36,7 @@ func (m *Machine) giveBack(f *frame) {
 	}
 	m.dropLast()
 	if len(m.frames) == 0 {
-		m.end(value)
+		m.end(f.method.Ret, value)
 		return
 	}
 	caller := m.last()
@@ -47,7 +47,7 @@ func (m *Machine) giveBack(f *frame) {
 }
 
 func thrownBy(thing api.Word) int {
-	if thing == null {
+	if isNull(thing) {
 		return nilAt
 	}
 	return thing.V
@@ -60,7 +60,7 @@ func (m *Machine) throw(thrown int) {
 		f := m.last()
 		for _, h := range f.method.Handlers {
 			if table.Covers(h, f.at) && m.classes.Below(class, h.Class) {
-				f.at, f.stack = h.At, []api.Word{addressWord(thrown)}
+				f.at, f.stack = h.At, []api.Word{m.address(thrown)}
 				return
 			}
 		}

@@ -32,9 +32,9 @@ func (m *Machine) do(f *frame, i api.Ins) int {
 func (m *Machine) work(f *frame, i api.Ins) int {
 	switch i.Op {
 	case api.Push:
-		f.push(intWord(i.A))
+		f.push(m.whole(i.A))
 	case api.Nought:
-		f.push(null)
+		f.push(m.null())
 	case api.Load:
 		f.push(f.locals[i.A])
 	case api.Store:
@@ -52,9 +52,9 @@ func (m *Machine) work(f *frame, i api.Ins) int {
 	case api.New:
 		return m.newObject(f, i.Class)
 	case api.NewInts:
-		return m.newArray(f, api.Thing{Kind: api.Ints}, intWord(0))
+		return m.newArray(f, api.Thing{Kind: api.Ints}, m.whole(0))
 	case api.NewRefs:
-		return m.newArray(f, api.Thing{Kind: api.Refs, Class: i.Class}, null)
+		return m.newArray(f, api.Thing{Kind: api.Refs, Class: i.Class}, m.null())
 	case api.Get:
 		return m.get(f, i)
 	case api.Put:
@@ -70,15 +70,41 @@ func (m *Machine) work(f *frame, i api.Ins) int {
 	case api.Is:
 		m.is(f, i.Class)
 	default:
-		return f.reckon(i.Op)
+		return m.reckon(f, i.Op)
 	}
 	return nowhere
 }
 
+// reckon gives what Add, Sub, Mul, Div or Rem throws, if it does.
+func (m *Machine) reckon(f *frame, op int) int {
+	second, first := int32(f.pop().V), int32(f.pop().V)
+	if second == 0 && (op == api.Div || op == api.Rem) {
+		return zeroAt
+	}
+	var result int32
+	switch op {
+	case api.Add:
+		result = first + second
+	case api.Sub:
+		result = first - second
+	case api.Mul:
+		result = first * second
+	case api.Div:
+		result = first / second
+	case api.Rem:
+		result = first % second
+	}
+	f.push(m.whole(int(result)))
+	return nowhere
+}
+
+// lay lays a thing at the next address, and gives the word for it.
+func (m *Machine) lay(t api.Thing) api.Word { return m.address(m.heap.add(t)) }
+
 func (m *Machine) blankObject(class string) api.Thing {
 	object := api.Thing{Kind: api.Ref, Class: class}
 	for _, field := range m.classes.Fields(class) {
-		object.Words = append(object.Words, blank(field.Type))
+		object.Words = append(object.Words, m.blank(field.Type))
 	}
 	return object
 }
@@ -87,7 +113,7 @@ func (m *Machine) newObject(f *frame, class string) int {
 	if !m.heap.take(m.classes.Width(class)) {
 		return memoryAt
 	}
-	f.push(m.heap.add(m.blankObject(class)))
+	f.push(m.lay(m.blankObject(class)))
 	return nowhere
 }
 
@@ -101,7 +127,7 @@ func (m *Machine) newArray(f *frame, array api.Thing, element api.Word) int {
 		return memoryAt
 	}
 	array.Words = slices.Repeat([]api.Word{element}, length)
-	f.push(m.heap.add(array))
+	f.push(m.lay(array))
 	return nowhere
 }
 
@@ -112,7 +138,7 @@ func (m *Machine) field(object api.Word, i api.Ins) *api.Word {
 
 func (m *Machine) get(f *frame, i api.Ins) int {
 	object := f.pop()
-	if object == null {
+	if isNull(object) {
 		return nilAt
 	}
 	f.push(*m.field(object, i))
@@ -121,7 +147,7 @@ func (m *Machine) get(f *frame, i api.Ins) int {
 
 func (m *Machine) put(f *frame, i api.Ins) int {
 	value, object := f.pop(), f.pop()
-	if object == null {
+	if isNull(object) {
 		return nilAt
 	}
 	*m.field(object, i) = value
@@ -130,16 +156,16 @@ func (m *Machine) put(f *frame, i api.Ins) int {
 
 func (m *Machine) length(f *frame) int {
 	array := f.pop()
-	if array == null {
+	if isNull(array) {
 		return nilAt
 	}
-	f.push(intWord(len(m.heap.at(array.V).Words)))
+	f.push(m.whole(len(m.heap.at(array.V).Words)))
 	return nowhere
 }
 
 // element is where an array has an element; if it has none, the address of what is thrown comes with it.
 func (m *Machine) element(array, index api.Word) (*api.Word, int) {
-	if array == null {
+	if isNull(array) {
 		return nil, nilAt
 	}
 	words := m.heap.at(array.V).Words
@@ -167,13 +193,13 @@ func (m *Machine) putElement(f *frame) int {
 	return thrown
 }
 
-// isUnder tells of null that it is under each class.
-func (m *Machine) isUnder(w api.Word, class string) bool {
-	return m.classes.Under(m.heap.typeOf(w), link.RefTo(class))
+// isThingUnder is not asked of null, which To lets be, and Is answers with 0.
+func (m *Machine) isThingUnder(address int, class string) bool {
+	return m.classes.Under(m.heap.typeAt(address), link.RefTo(class))
 }
 
 func (m *Machine) to(f *frame, class string) int {
-	if !m.isUnder(f.top(), class) {
+	if w := f.top(); !isNull(w) && !m.isThingUnder(w.V, class) {
 		return castAt
 	}
 	return nowhere
@@ -181,8 +207,8 @@ func (m *Machine) to(f *frame, class string) int {
 
 func (m *Machine) is(f *frame, class string) {
 	answer := 0
-	if w := f.pop(); w != null && m.isUnder(w, class) {
+	if w := f.pop(); !isNull(w) && m.isThingUnder(w.V, class) {
 		answer = 1
 	}
-	f.push(intWord(answer))
+	f.push(m.whole(answer))
 }

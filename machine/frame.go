@@ -49,30 +49,7 @@ func (f *frame) isJumpMade(op int) bool {
 		second, first := f.pop(), f.pop()
 		return first.V < second.V
 	case api.IfSame:
-		return f.pop() == f.pop()
+		return f.pop().V == f.pop().V
 	}
 	return true
-}
-
-// reckon gives what Add, Sub, Mul, Div or Rem throws, if it does.
-func (f *frame) reckon(op int) int {
-	second, first := int32(f.pop().V), int32(f.pop().V)
-	if second == 0 && (op == api.Div || op == api.Rem) {
-		return zeroAt
-	}
-	var result int32
-	switch op {
-	case api.Add:
-		result = first + second
-	case api.Sub:
-		result = first - second
-	case api.Mul:
-		result = first * second
-	case api.Div:
-		result = first / second
-	case api.Rem:
-		result = first % second
-	}
-	f.push(intWord(int(result)))
-	return nowhere
 }

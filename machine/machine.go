@@ -1,4 +1,4 @@
-// Package machine runs methods with care: each word carries what it is, and each instruction is held against the words ahead of it.
+// Package machine runs methods: with care, where each word carries what it is, and each instruction is held against the words ahead of it, or fast, without either.
 package machine
 
 import (
@@ -12,6 +12,7 @@ import (
 
 // Machine is one run of a method, and of all that it calls.
 type Machine struct {
+	maker
 	classes *link.Classes
 	heap    heap
 	frames  []*frame
@@ -19,14 +20,15 @@ type Machine struct {
 }
 
 // Start stands ahead of the first instruction of the method that a class has, which is to take as many Ints as there are args (P9).
-func Start(classes *link.Classes, class, method string, args []int, room int) *Machine {
-	m := &Machine{classes: classes, heap: heap{room: room}}
+// A fast machine asks for classes of which all methods were checked.
+func Start(fast bool, classes *link.Classes, class, method string, args []int, room int) *Machine {
+	m := &Machine{maker: maker{fast}, classes: classes, heap: heap{room: room}}
 	for address := nilAt; address < len(thrownOfItself); address++ {
 		m.heap.add(m.blankObject(thrownOfItself[address]))
 	}
-	given := []api.Word{m.heap.add(m.blankObject(strings.Clone(class)))} // a copy: what was handed in is not kept
+	given := []api.Word{m.lay(m.blankObject(strings.Clone(class)))} // a copy: what was handed in is not kept
 	for _, a := range args {
-		given = append(given, intWord(a))
+		given = append(given, m.whole(a))
 	}
 	m.enter(class, method, given)
 	return m
@@ -68,10 +70,10 @@ func (m *Machine) last() *frame { return m.frames[len(m.frames)-1] }
 
 func (m *Machine) dropLast() { m.frames = m.frames[:len(m.frames)-1] }
 
-// step makes the next instruction, or else finds that the machine is stuck.
+// step makes the next instruction, or else a careful machine finds that it is stuck.
 func (m *Machine) step() bool {
 	f := m.last()
-	if !m.fits(f) {
+	if !m.fast && !m.fits(f) {
 		m.outcome.Kind = api.Stuck
 		return false
 	}
@@ -89,13 +91,17 @@ func (m *Machine) fits(f *frame) bool {
 	return table.IsThere(m.classes, f.method, i) && table.Fits(m.classes, f.method, i, f.stack, f.locals, m.heap.typeOf)
 }
 
-// end is how a run is done, with the value that its first method told, or none.
-func (m *Machine) end(value api.Word) {
+// end is how a run is done, with the value that its first method told, or a word that is none.
+func (m *Machine) end(ret api.Type, value api.Word) {
 	m.outcome.Kind = api.Done
-	switch t := m.heap.typeOf(value); t.Kind {
-	case api.Int:
+	if ret.Kind == api.Int {
 		m.outcome.Value = value.V
-	case api.Ref:
+		return
+	}
+	if isNull(value) {
+		return
+	}
+	if t := m.heap.typeAt(value.V); t.Kind == api.Ref {
 		m.outcome.Class = t.Name
 	}
 }

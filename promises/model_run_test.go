@@ -6,9 +6,10 @@ import (
 	"warden/api"
 )
 
-// modelRun: a careful run as the document tells it, as plainly as can be.
+// modelRun: a run as the document tells it, as plainly as can be: a careful one, of which the tags are left out in what is told of a fast one.
 type modelRun struct {
 	w       world
+	isFast  bool
 	frames  []api.Frame
 	heap    []api.Thing
 	room    int // that is left
@@ -310,4 +311,37 @@ func (r *modelRun) finish(value []api.Word) {
 	}
 }
 
-func (r *modelRun) state() api.State { return api.State{Frames: r.frames, Heap: r.heap} }
+func (r *modelRun) state() api.State {
+	s := api.State{Frames: r.frames, Heap: r.heap}
+	if r.isFast {
+		return bare(s)
+	}
+	return s
+}
+
+// as: the model of a fast run, or of a careful one.
+func (r *modelRun) as(fast bool) *modelRun {
+	r.isFast = fast
+	return r
+}
+
+// bare: the state without tags.
+func bare(s api.State) api.State {
+	b := api.State{Frames: slices.Clone(s.Frames), Heap: slices.Clone(s.Heap)}
+	for k := range b.Frames {
+		f := &b.Frames[k]
+		f.Stack, f.Locals = bareWords(f.Stack), bareWords(f.Locals)
+	}
+	for k := range b.Heap {
+		b.Heap[k].Words = bareWords(b.Heap[k].Words)
+	}
+	return b
+}
+
+func bareWords(list []api.Word) []api.Word {
+	list = slices.Clone(list)
+	for k := range list {
+		list[k].Tag = api.NoWord
+	}
+	return list
+}

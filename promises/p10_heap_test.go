@@ -98,8 +98,8 @@ func layers() []api.Class {
 	}
 }
 
-// TestP10Fields: those of the Super come first; each is the same one whichever class it is named by.
-func TestP10Fields(t *testing.T) {
+// layersUsed: the layers, and Me, which puts and gets the fields of all, by the names of several classes, and ends.
+func layersUsed() []api.Class {
 	c := code(by(api.New, "Me"), do(api.Store, 1))
 	put := func(class, member string, value ...api.Ins) {
 		c = after(c, code(do(api.Load, 1)), value, code(by(api.Put, class, member)))
@@ -114,10 +114,17 @@ func TestP10Fields(t *testing.T) {
 		c = append(c, do(api.Load, 1), by(api.Get, x[0], x[1]))
 	}
 	me := withFields(classOf("Me", "Low", roomyMethod(append(c, do(api.Return)))), field("e", number), field("f", refTo("Top")))
+	return append(layers(), me)
+}
+
+// TestP10Fields: those of the Super come first; each is the same one whichever class it is named by.
+func TestP10Fields(t *testing.T) {
+	classes := layersUsed()
+	steps := len(classes[3].Methods[0].Code) - 1
 	for _, checked := range []bool{false, true} {
-		p := wantAnswer(t, "layers", filesOf(t, append(layers(), me)...), checked, api.OK, api.Place{})
+		p := wantAnswer(t, "layers", filesOf(t, classes...), checked, api.OK, api.Place{})
 		r := startOf(t, p, "Me", "m", nil, 99)
-		if n := r.Step(len(c)); n != len(c) {
+		if n := r.Step(steps); n != steps {
 			t.Errorf("Step = %d, %+v", n, r.Outcome())
 		}
 		list := words(intWord(11), addressWord(10), addressWord(8), intWord(14), intWord(15), addressWord(9))

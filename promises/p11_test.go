@@ -120,8 +120,8 @@ func TestP11Outcomes(t *testing.T) {
 	} {
 		m := roomyMethod(after(push(5, 6), code(do(api.Print), do(api.Print)), x.c, code(do(api.Return))))
 		m.Ret = x.ret
-		for _, checked := range []bool{false, true} {
-			r := startOf(t, wantAnswer(t, x.what, withFamily(t, m), checked, api.OK, api.Place{}), "Me", "m", nil, 99)
+		for _, way := range []struct{ checked, fast bool }{{false, false}, {true, false}, {true, true}} {
+			r := startAs(t, way.fast, wantAnswer(t, x.what, withFamily(t, m), way.checked, api.OK, api.Place{}), "Me", "m", nil, 99)
 			r.Step(len(m.Code) - 1)
 			wantOutcome(t, x.what+", ahead", r, api.Outcome{Out: []int{6, 5}, Steps: len(m.Code) - 1})
 			heap := r.State().Heap

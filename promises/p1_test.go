@@ -118,8 +118,8 @@ func TestP1OddStarts(t *testing.T) {
 					for _, args := range [][]int{nil, {}, {math.MinInt, math.MaxInt}, make([]int, 1<<16)} {
 						for _, heap := range []int{math.MinInt, -1, 0, 2000, math.MaxInt} {
 							r, e := p.Start(fast, class, method, args, heap)
-							isGood := (class == "Pet" || class == "Me") && method == "num" && len(args) == 0 && (heap == 0 || heap == 2000)
-							if isGood != (e == api.OK) && (checked || !fast) || r != nil && e != api.OK || r == nil && isGood && !fast {
+							isGood := (class == "Pet" || class == "Me") && method == "num" && len(args) == 0 && (heap == 0 || heap == 2000) && (checked || !fast)
+							if isGood != (e == api.OK) || isGood != (r != nil) {
 								t.Errorf("Start(%v, %.20q, %.20q, %.20s, %d) = %v, %d", fast, class, method, show(args), heap, r != nil, e)
 							}
 						}

@@ -182,21 +182,23 @@ func TestP2StartKeepsNothing(t *testing.T) {
 	m := plainMethod(1, 4, code(do(api.Push, 3), do(api.Store, 1), do(api.Push, 4), do(api.Store, 3), do(api.Load, 2), do(api.Print), do(api.Return)))
 	m.Params = typeList(number, number)
 	p := wantAnswer(t, "args", withFamily(t, m), true, api.OK, api.Place{})
-	args := roomy([]int{5, 6}, 77)
-	r, e := p.Start(false, "Me", "m", args, 0)
-	if e != api.OK {
-		t.Fatalf("Start = %d", e)
+	for _, fast := range bothWays {
+		args := roomy([]int{5, 6}, 77)
+		r, e := p.Start(fast, "Me", "m", args, 0)
+		if e != api.OK {
+			t.Fatalf("Start = %d", e)
+		}
+		want := r.State()
+		r.Step(4)
+		if all := args[:cap(args)]; !reflect.DeepEqual(all[:6], []int{5, 6, 77, 77, 77, 77}) {
+			t.Errorf("the args: %v", all)
+		}
+		again, _ := p.Start(fast, "Me", "m", args, 0)
+		fill(args, 99, true)
+		wantRun(t, "the args changed", again, api.Outcome{}, want)
+		again.Step(9)
+		wantOutcome(t, "the args changed", again, api.Outcome{Kind: api.Done, Out: []int{6}, Steps: 7})
 	}
-	want := r.State()
-	r.Step(4)
-	if all := args[:cap(args)]; !reflect.DeepEqual(all[:6], []int{5, 6, 77, 77, 77, 77}) {
-		t.Errorf("the args: %v", all)
-	}
-	again, _ := p.Start(false, "Me", "m", args, 0)
-	fill(args, 99, true)
-	wantRun(t, "the args changed", again, api.Outcome{}, want)
-	again.Step(9)
-	wantOutcome(t, "the args changed", again, api.Outcome{Kind: api.Done, Out: []int{6}, Steps: 7})
 }
 
 // scribbleState writes into the lists of a state, if inside is set, and into their spare room.
@@ -215,11 +217,10 @@ func scribbleState(s api.State, inside bool) {
 
 // TestP2RunGivesNewMemory: what comes out is the caller's, spare room too: the run goes on as if nothing was written there, and so does what was told else.
 func TestP2RunGivesNewMemory(t *testing.T) {
-	for seed := range int64(300) {
-		classes, r := town(seed)
-		p := wantAnswer(t, "a town", filesOf(t, classes...), false, api.OK, api.Place{})
-		args := make([]int, paramsOf(classes, "m"))
-		run, model := startOf(t, p, "Me", "m", args, 60), r.w.start("Me", "m", args, 60)
+	for seed := range int64(600) {
+		fast := seed%2 == 1
+		p, w, args := placeFor(t, fast, seed)
+		run, model := startAs(t, fast, p, "Me", "m", args, 60), w.start("Me", "m", args, 60).as(fast)
 		for model.outcome.Kind == api.Going && model.outcome.Steps < 150 {
 			first, second, out, other := run.State(), run.State(), run.Outcome().Out, run.Outcome().Out
 			scribbleState(first, false)
@@ -238,18 +239,17 @@ func TestP2RunGivesNewMemory(t *testing.T) {
 
 // TestP2StatesStay: what was told stays as it is when the run goes on.
 func TestP2StatesStay(t *testing.T) {
-	for seed := range int64(200) {
-		classes, r := town(seed)
-		p := wantAnswer(t, "a town", filesOf(t, classes...), false, api.OK, api.Place{})
-		args := make([]int, paramsOf(classes, "m"))
-		run := startOf(t, p, "Me", "m", args, 60)
+	for seed := range int64(400) {
+		fast := seed%2 == 1
+		p, w, args := placeFor(t, fast, seed)
+		run := startAs(t, fast, p, "Me", "m", args, 60)
 		var states []api.State
 		var outcomes []api.Outcome
 		for range 60 {
 			states, outcomes = append(states, run.State()), append(outcomes, run.Outcome())
 			run.Step(1)
 		}
-		model := r.w.start("Me", "m", args, 60)
+		model := w.start("Me", "m", args, 60).as(fast)
 		for k := range states {
 			if !sameState(states[k], model.state()) || !sameOutcome(outcomes[k], model.outcome) {
 				t.Fatalf("seed %d: the state ahead of step %d changed: %+v, want %+v", seed, k, states[k], model.state())
@@ -261,15 +261,15 @@ func TestP2StatesStay(t *testing.T) {
 
 // TestP2RunsApart: of runs of one program, and of typings of it, none can tell that there are others.
 func TestP2RunsApart(t *testing.T) {
-	for seed := range int64(100) {
-		classes, r := town(seed)
-		p := wantAnswer(t, "a town", filesOf(t, classes...), false, api.OK, api.Place{})
-		args := make([]int, paramsOf(classes, "m"))
+	for seed := range int64(200) {
+		isVillage := seed%2 == 1
+		p, w, args := placeFor(t, isVillage, seed)
 		var runs []*warden.Run
 		var models []*modelRun
 		for k := range 4 {
-			runs = append(runs, startOf(t, p, "Me", "m", args, 20*k))
-			models = append(models, r.w.start("Me", "m", args, 20*k))
+			fast := isVillage && k > 0
+			runs = append(runs, startAs(t, fast, p, "Me", "m", args, 20*k))
+			models = append(models, w.start("Me", "m", args, 20*k).as(fast))
 		}
 		for n := range 40 {
 			for k, run := range runs {
@@ -288,8 +288,8 @@ func TestP2ProgramStays(t *testing.T) {
 	m := plainMethod(2, 3, code(do(api.Push), do(api.Store, 1), by(api.New, "Me"), do(api.Store, 2), do(api.Load), by(api.Call, "Me", "m"), do(api.Return)))
 	p := wantAnswer(t, "typed", withFamily(t, m), true, api.OK, api.Place{})
 	want, _ := p.Typing("Me", "m")
-	for range 3 {
-		r := startOf(t, p, "Me", "m", nil, 100)
+	for k := range 4 {
+		r := startAs(t, bothWays[k%2], p, "Me", "m", nil, 100)
 		r.Step(5000)
 		wantOutcome(t, "typed", r, api.Outcome{Kind: api.Over, Class: "Depth", Steps: 120})
 		scribbleState(r.State(), true)

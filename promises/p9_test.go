@@ -44,8 +44,12 @@ func TestP9Errors(t *testing.T) {
 				t.Errorf("checked: %v: Start(%+v) = run: %v, %d", checked, x, r != nil, e)
 			}
 			r, e := p.Start(true, x.class, x.method, x.args, x.heap)
-			if !checked && (r != nil || e != api.ErrFast) || checked && (e != x.e || r != nil && e != api.OK) {
-				t.Errorf("checked: %v: Start(fast, %+v) = run: %v, %d", checked, x, r != nil, e)
+			want := x.e
+			if !checked {
+				want = api.ErrFast // whatever else is wrong
+			}
+			if e != want || (r != nil) != (e == api.OK) {
+				t.Errorf("checked: %v: Start(fast, %+v) = run: %v, %d, want %d", checked, x, r != nil, e, want)
 			}
 		}
 	}
@@ -80,9 +84,11 @@ func TestP9FirstState(t *testing.T) {
 		{"Pup", "bark", "Dog", []int{}, objectOf("Pup", intWord(0), nullWord, nullWord, nullWord, nullWord), words(addressWord(8))},
 	} {
 		for _, heap := range []int{0, 3, 2000} {
-			r := startOf(t, p, x.class, x.method, x.args, heap)
 			want := api.State{Frames: []api.Frame{{Class: x.owner, Method: x.method, Locals: x.locals}}, Heap: append(firstHeap(), x.object)}
+			r := startOf(t, p, x.class, x.method, x.args, heap)
 			wantRun(t, x.class+" "+x.method, r, api.Outcome{}, want)
+			r = startAs(t, true, p, x.class, x.method, x.args, heap)
+			wantRun(t, x.class+" "+x.method+", fast", r, api.Outcome{}, bare(want))
 		}
 	}
 }

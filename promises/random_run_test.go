@@ -10,7 +10,10 @@ import (
 )
 
 // town: the family, and classes with methods that are made: Me, and Sub below it, which has another p.
-func town(seed int64) ([]api.Class, *maker) {
+func town(seed int64) ([]api.Class, *maker) { return builtTown(seed, (*maker).make) }
+
+// builtTown: a town of which build makes each method.
+func builtTown(seed int64, build func(*maker)) ([]api.Class, *maker) {
 	r := bareMaker(seed)
 	r.nameList = append(r.nameList, "Me", "Sub", "Sub")
 	r.favored = code(by(api.Call, "Me", "m"), by(api.Call, "Me", "p"), by(api.Call, "Me", "q"), by(api.Call, "Sub", "p"), by(api.Call, "Sub", "s"),
@@ -24,7 +27,7 @@ func town(seed int64) ([]api.Class, *maker) {
 	for _, c := range []api.Class{me, sub} {
 		for k, m := range c.Methods {
 			r.begin(c.Name, m)
-			r.make()
+			build(r)
 			c.Methods[k] = r.m
 		}
 	}
@@ -87,12 +90,32 @@ func TestP10Random(t *testing.T) {
 // startOf: a careful run.
 func startOf(t *testing.T, p *warden.Program, class, method string, args []int, heap int) *warden.Run {
 	t.Helper()
+	return startAs(t, false, p, class, method, args, heap)
+}
+
+// startAs: a fast run, or a careful one.
+func startAs(t *testing.T, fast bool, p *warden.Program, class, method string, args []int, heap int) *warden.Run {
+	t.Helper()
 	given := slices.Clone(args)
-	run, e := p.Start(false, class, method, given, heap)
+	run, e := p.Start(fast, class, method, given, heap)
 	if run == nil || e != api.OK {
-		t.Fatalf("Start(%s, %s, %v, %d) = %v, %d", class, method, args, heap, run != nil, e)
+		t.Fatalf("Start(%v, %s, %s, %v, %d) = %v, %d", fast, class, method, args, heap, run != nil, e)
 	}
 	return run
+}
+
+// bothWays: whether a run is fast.
+var bothWays = []bool{false, true}
+
+// placeFor: a program made from the seed, with the args of Me's m: a town, unchecked, or, for fast runs, a village.
+func placeFor(t *testing.T, fast bool, seed int64) (*warden.Program, world, []int) {
+	t.Helper()
+	classes, _ := town(seed)
+	if fast {
+		classes, _ = village(seed)
+	}
+	p := wantAnswer(t, "a place", filesOf(t, classes...), fast, api.OK, api.Place{})
+	return p, worldOf(classes), make([]int, paramsOf(classes, "m"))
 }
 
 // wantSteps asks that n more steps of the run, and what they make, are those of the model.

@@ -16,6 +16,7 @@ import (
 type maker struct {
 	*rand.Rand
 	w        world
+	class    string
 	m        api.Method
 	heights  []int // ahead of each instruction
 	pending  []jump
@@ -80,7 +81,7 @@ func (r *maker) head(name string, param func() api.Type) api.Method {
 
 // begin: a class's method is the one to be made.
 func (r *maker) begin(class string, m api.Method) {
-	r.m, r.isEnded = m, false
+	r.class, r.m, r.isEnded = class, m, false
 	r.heights, r.pending, r.stack = nil, nil, nil
 	r.locals = append(typeList(refTo(class)), m.Params...)
 	r.locals = append(r.locals, make([]api.Type, m.Locals-len(r.locals))...)
